@@ -50,3 +50,13 @@ def are_shorts(value, many):
     if not is_list(value) or (many is not None and len(value) != many):
         return False
     return all([is_short(item) for item in value])
+
+
+def repeated(values):
+    """The first of several strings or tuples that equals one ahead of it, None if there is none."""
+    seen = set()
+    for value in values:
+        if value in seen:
+            return value
+        seen.add(value)
+    return None

@@ -1,6 +1,6 @@
 """Nets: houses, and the ties that join them in one piece."""
 
-from fairweather.checks import is_list, is_within
+from fairweather.checks import is_list, is_within, repeated
 from fairweather.errors import BadNet, BadNumber, Twice
 from fairweather.papers import fixed
 from fairweather.texts import Reader
@@ -50,11 +50,9 @@ class Net:
         if not is_list(ties) or not all([is_tie(houses, tie) for tie in ties]):
             raise BadNet("ties")
         pairs = fixed(ties)
-        seen = set()
-        for pair in pairs:
-            if pair in seen:
-                raise Twice(pair)
-            seen.add(pair)
+        again = repeated(pairs)
+        if again is not None:
+            raise Twice(again)
         if not is_one_piece(houses, pairs):
             raise BadNet("pieces")
         self.houses = houses

@@ -3,7 +3,7 @@
 import importlib
 import types
 
-MODULES = ("errors", "checks", "papers", "shorts", "nets")
+MODULES = ("errors", "checks", "papers", "shorts", "nets", "trees", "programs", "standings", "rounds", "calm", "codes")
 
 
 def names():
