@@ -1,6 +1,6 @@
 """Codes: the instructions that a computer does, row by row."""
 
-from fairweather.checks import LEAST_SHORT, MOST_SHORT, is_list, is_within
+from fairweather.checks import is_list, is_within
 from fairweather.errors import BadCode
 from fairweather.papers import fixed
 from fairweather.shorts import SIGNS
@@ -10,11 +10,11 @@ MOST_ROWS = 10000
 
 # The least and the greatest number of each instruction that has one.
 NUMBERS = {
-    "push": (LEAST_SHORT, MOST_SHORT),
+    "push": (-2147483648, 2147483647),
     "load": (0, 999),
     "store": (0, 999),
-    "jump": (0, MOST_ROWS),
-    "unless": (0, MOST_ROWS),
+    "jump": (0, 10000),
+    "unless": (0, 10000),
     "send": (0, 4),
     "take": (0, 4),
 }

@@ -44,9 +44,7 @@ class Reader:
         raise BadText(len(self.pieces) - 1)
 
     def take(self):
-        """Goes behind the next item, and returns it."""
-        if self.ended():
-            self.refuse()
+        """Goes behind the next item, which must be there, and returns it."""
         self.at += 1
         return self.pieces[self.at - 1]
 

@@ -43,7 +43,7 @@ MOST_TIMES = 9
 
 def is_name(value):
     """Whether a value is a name that a cell can have."""
-    if not isinstance(value, str) or not 1 <= len(value) <= MOST_LETTERS:
+    if not isinstance(value, str) or len(value) > MOST_LETTERS:
         return False
     return value.isascii() and value.isalpha() and value.islower() and value not in WORDS
 
@@ -155,7 +155,7 @@ def weight_in(tree):
         return 1 + 5 * (1 + inner)
     if tree[0] == "times":
         return 1 + tree[1] * (1 + inner)
-    # What counts 1 more for its list stands in each and times alone; the lists of an if have one turn in all.
+    # The list of an if that is done has no turns of its own.
     return 1 + inner
 
 

@@ -2,9 +2,17 @@
 
 from fairweather.errors import WeatherError
 
+
+class Agreeing:
+    """An object that equals everything, and that is no key."""
+
+    def __eq__(self, other):
+        return True
+
+
 # Values of many kinds, none of which is an integer, a list, a tuple or an object of the package.
 STRANGE = [None, True, False, 1.0, "", "1", "x", b"1", {}, {1: 2}, set(), frozenset([1]), range(3), object(), int, len,
-           iter([1]), 2j, Exception("x")]
+           iter([1]), 2j, Exception("x"), Agreeing()]
 
 
 class Raising:

@@ -1,7 +1,7 @@
 import unittest
 
 from fairweather.papers import Denial, Paper, fixed
-from tests.helpers import STRANGE, nested
+from tests.helpers import STRANGE, Agreeing, nested
 
 
 class Note(Paper):
@@ -20,7 +20,19 @@ class No(Denial):
         Denial.__init__(self, "no", one)
 
 
+class Foreign:
+    """No paper, though its class has the name of one."""
+
+    def __init__(self, word, *parts):
+        self.word, self.parts = word, parts
+
+
 class Papers(unittest.TestCase):
+    def test_a_name_makes_no_paper(self):
+        for kind in (Paper, Denial):
+            Foreign.__name__ = kind.__name__
+            self.assertIs(kind("note", 1) == Foreign("note", 1), False)
+
     def test_word_and_parts(self):
         for kind in (Paper, Denial):
             paper = kind("note", 1, [2, (3, [4])], "x", None, True)
@@ -66,9 +78,6 @@ class Papers(unittest.TestCase):
             self.assertIs(Paper("note", 1) != value, True)
 
     def test_another_value_does_not_decide(self):
-        class Agreeing:
-            def __eq__(self, other):
-                return True
         self.assertIs(Paper("a") == Agreeing(), False)
         self.assertIs(Denial("a") == Agreeing(), False)
 

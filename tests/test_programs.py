@@ -190,6 +190,7 @@ class TextsOfPrograms(Raising, unittest.TestCase):
                            ("cells round a := 1 end", 2), ("cells a 1 round a = 1 end", 5), ("cells round show end", 3),
                            ("cells round if me then else end end", 6), ("cells round if me then end else end", 6),
                            ("cells round else end", 2), ("cells round times 10 do end end", 3),
+                           ("cells round times -1 do end end", 3), ("cells round times 00 do end end", 3),
                            ("cells round times me do end end", 3), ("cells round each me do end end", 3),
                            ("cells a 1 round each a end", 6), ("cells round say me end", 4), ("cells round say me to end", 5),
                            ("cells round show ( me + me end", 7), ("cells round show ( me me ) end", 5),
@@ -215,6 +216,21 @@ class TextsOfPrograms(Raising, unittest.TestCase):
         self.refused(38, "cells round" + " times 1 do" * 13 + " end" * 14)
         text = "cells round" + " if me then" * 11 + " else times 0 do end" + " end" * 12
         self.assertEqual(str(Program.read(text)), text)
+
+    def test_level_13_in_each_form(self):
+        expressions = ["not {}", "heard {}", "( {} + me )", "( me and {} )"]
+        statements = ["if {} then end", "a := {}", "say {} to me", "say me to {}", "show {}"]
+        lists = ["if me then {} end", "if me then else {} end", "each a do {} end", "times 0 do {} end",
+                 "if me then else show me {} end", "if me then show me {} else show me end"]
+        for inner in expressions:
+            for outer in statements:
+                for around in lists:
+                    text = "me"
+                    for form in [inner] * 6 + [outer, around] + ["times 0 do {} end"] * 3:
+                        text = form.format(text)
+                    self.assertEqual(str(Program.read(f"cells a 1 round {text} end")), f"cells a 1 round {text} end")
+                    deeper = f"cells a 1 round times 0 do {text} end end"
+                    self.refused(first_bad(deeper), deeper)
 
     def test_part_behind_200_others(self):
         self.refused(202, "cells round" + " show me" * 100 + " show me end")
