@@ -27,7 +27,7 @@ def distances(ties, start):
     edge = [start]
     while edge:
         beyond = []
-        for house in edge:
+        for house in list(edge):
             for other in joined(ties, house):
                 if other not in found:
                     found[other] = found[house] + 1

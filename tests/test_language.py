@@ -47,6 +47,44 @@ def bound_names(function):
             yield node.name
 
 
+CHANGING = set("append clear extend insert pop remove reverse setdefault update".split())
+
+
+def told(node):
+    """A name, an attribute or an item as it is written, an item by what it is one of; None for all else."""
+    while isinstance(node, ast.Subscript):
+        node = node.value
+    return ast.unparse(node) if isinstance(node, (ast.Name, ast.Attribute)) else None
+
+
+def changed(node):
+    """What a call, an assignment or a del changes, None if nothing."""
+    if isinstance(node, ast.Call) and isinstance(node.func, ast.Attribute) and node.func.attr in CHANGING:
+        return node.func.value
+    if isinstance(node, ast.Subscript) and not isinstance(node.ctx, ast.Load):
+        return node.value
+    return node.target if isinstance(node, ast.AugAssign) else None
+
+
+def in_copy(whole, node):
+    """Whether a node stands in list(..), tuple(..), sorted(..) or range(..) within an expression."""
+    copies = [one for one in ast.walk(whole) if isinstance(one, ast.Call)
+              and getattr(one.func, "id", "") in ("list", "tuple", "sorted", "range")]
+    return any(node in list(ast.walk(one)) for one in copies)
+
+
+def aliases(function):
+    """For each name or attribute of a function those that may be the same value, by plain assignments."""
+    same = {told(node): {told(node)} for node in ast.walk(function) if told(node)}
+    for node in ast.walk(function):
+        if isinstance(node, ast.Assign):
+            for one, other in [(target, node.value) for target in node.targets]:
+                if told(one) and told(other):
+                    both = same[told(one)] | same[told(other)]
+                    same.update({name: both for name in both})
+    return same
+
+
 class Language(unittest.TestCase):
     def test_files(self):
         self.assertIn("__init__", FILES)
@@ -108,6 +146,19 @@ class Language(unittest.TestCase):
         for where, node in nodes(ast.FunctionDef):
             self.assertIsNone(node.returns, where)
             self.assertTrue(all(getattr(one, "id", "") in ("staticmethod", "property") for one in node.decorator_list), where)
+
+    def test_attributes_are_assigned_through_names(self):
+        for where, node in nodes(ast.Attribute):
+            if isinstance(node.ctx, ast.Store):
+                self.assertIsInstance(node.value, ast.Name, where)
+
+    def test_loops_do_not_change_what_they_walk(self):
+        for where, function in nodes(ast.FunctionDef):
+            same = aliases(function)
+            for loop in [node for node in ast.walk(function) if isinstance(node, ast.For)]:
+                walked = {name for node in ast.walk(loop.iter) if not in_copy(loop.iter, node) for name in same.get(told(node), ())}
+                for node in [one for row in loop.body for one in ast.walk(row)]:
+                    self.assertFalse(walked & same.get(told(changed(node)), set()), f"{where} {ast.unparse(loop.iter)}")
 
     def test_calls(self):
         own = {node.name for _, node in nodes(ast.FunctionDef, ast.ClassDef)}
