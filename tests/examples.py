@@ -3,7 +3,9 @@
 import importlib
 import types
 
-MODULES = ("errors", "checks", "papers", "shorts", "nets", "trees", "programs", "standings", "rounds", "calm", "codes")
+MODULES = ("errors", "checks", "papers", "shorts", "nets", "trees", "programs", "standings", "rounds", "calm", "codes",
+           "computers", "layouts", "expressions", "statements", "shorter", "halves", "care", "houses", "lines", "weathers",
+           "worlds")
 
 
 def names():

@@ -27,6 +27,15 @@ class Raising:
         for name, value in fields.items():
             self.assertIs(type(told[name]), type(value))
 
+    def raises_in_order(self, function, good, wrong):
+        """Each wrong value, an (index, value, kind, fields), is told for good values but those of it and of all behind it."""
+        for at, (_, _, kind, fields) in enumerate(wrong):
+            for others in ([wrong[at]], wrong[at:]):
+                values = list(good)
+                for index, value, _, _ in others:
+                    values[index] = value
+                self.raises(kind, fields, function, *values)
+
 
 def nested(depth, inner=()):
     """A value of lists and tuples by turns, nested so deep."""

@@ -21,10 +21,26 @@ INTERFACE = {
     "calm": {"calm_run": "program net inputs", "calm_screens": "program net inputs", "screen_of": "standings",
              "is_beginning": "one other"},
     "codes": {"is_instruction": "value", "Code": "rows"},
+    "computers": {"Computer": "code disk=()"},
+    "expressions": {"expression_code": "program net house expression start=0"},
+    "statements": {"statement_code": "program net house statement start=0", "round_code": "program net house start=0"},
+    "shorter": {"shorter": "code"},
+    "halves": {"half_pairs": "program net house standing m half", "standing_in": "program net house disk",
+               "first_disk": "program net house"},
+    "care": {"is_wanted": "done has number m"},
+    "houses": {"house_code": "program net house m left=None"},
+    "lines": {"Line": "late"},
+    "weathers": {"is_event": "net value", "Weather": "events"},
+    "worlds": {"World": "program net m s left=None"},
 }
 METHODS = {"Paper": "__init__ __eq__ __bool__", "Denial": "__init__ __eq__ __bool__", "Net": "__init__ __eq__ __str__ read",
            "Program": "__init__ __eq__ __str__ read", "Standing": "__init__ __eq__",
-           "Code": "__init__ __eq__ __str__ __len__ __iter__ read"}
+           "Code": "__init__ __eq__ __str__ __len__ __iter__ read", "Computer": "__init__ memory disk_at hand step cut",
+           "Line": "__init__ send hand drop", "Weather": "__init__ __eq__ __len__ __str__ read",
+           "World": "__init__ do run line_of disk_of waiting_of"}
+ARGUMENTS = {"Computer": {"memory": "address", "disk_at": "address", "hand": "place letter", "step": "given", "cut": "kept"},
+             "Line": {"send": "letter", "hand": "back", "drop": "back"},
+             "World": {"do": "event", "run": "weather", "line_of": "one other", "disk_of": "house", "waiting_of": "house"}}
 
 
 class Interface(unittest.TestCase):
@@ -36,9 +52,9 @@ class Interface(unittest.TestCase):
                 self.assertEqual(value.__module__, f"fairweather.{module}", name)
                 told = []
                 for parameter in inspect.signature(value).parameters.values():
-                    self.assertIs(parameter.default, parameter.empty, name)
                     star = "*" if parameter.kind == parameter.VAR_POSITIONAL else ""
-                    told.append(star + parameter.name)
+                    default = "" if parameter.default is parameter.empty else f"={parameter.default!r}"
+                    told.append(star + parameter.name + default)
                 self.assertEqual(" ".join(told), arguments, name)
 
     def test_methods_stand_in_their_classes(self):
@@ -48,8 +64,15 @@ class Interface(unittest.TestCase):
                 for method in methods.split() if hasattr(there, name) and name in INTERFACE[listed] else ():
                     self.assertIn(method, vars(getattr(there, name)), name)
 
+    def test_arguments_of_methods(self):
+        for module, listed in INTERFACE.items():
+            for name in listed:
+                for method, arguments in ARGUMENTS.get(name, {}).items():
+                    one = getattr(getattr(importlib.import_module(f"fairweather.{module}"), name), method)
+                    self.assertEqual(list(inspect.signature(one).parameters), ["self", *arguments.split()])
+
     def test_read_is_static_or_of_the_class(self):
-        for module, name in (("nets", "Net"), ("programs", "Program"), ("codes", "Code")):
+        for module, name in (("nets", "Net"), ("programs", "Program"), ("codes", "Code"), ("weathers", "Weather")):
             kind = getattr(importlib.import_module(f"fairweather.{module}"), name)
             self.assertIsInstance(vars(kind)["read"], (staticmethod, classmethod))
             self.assertEqual(list(inspect.signature(kind.read).parameters), ["text"])
