@@ -119,3 +119,20 @@ class Computer:
             self.settled[address] = short
         self.power_on()
         return pairs
+
+    def state(self):
+        """All that changes, as it is now."""
+        disk = (tuple(self.settled), tuple(self.written), tuple(self.queue))
+        return (self.at, tuple(self.held), tuple(self.pile), disk, tuple(self.laid))
+
+    def restore(self, state):
+        """Lets all be as it was when the state was told."""
+        at, held, pile, disk, laid = state
+        settled, written, queue = disk
+        self.at = at
+        self.held = list(held)
+        self.pile = list(pile)
+        self.settled = list(settled)
+        self.written = list(written)
+        self.queue = list(queue)
+        self.laid = list(laid)

@@ -55,15 +55,14 @@ def half_pairs(program, net, house, standing, m, half):
     return laid_out(standing, m, half)
 
 
-def begin_of_half(shorts):
-    """Where the half that counts begins, the shorts of the disk being told by their addresses."""
-    return FIRST_HALF if shorts.get(TURNING, 0) == 0 else FIRST_HALF + HALF_SIZE
+def begin_of_half(turning):
+    """Where the half begins that the short in the turning cell names."""
+    return FIRST_HALF if turning == 0 else FIRST_HALF + HALF_SIZE
 
 
-def done_on(disk):
-    """How many rounds are done in the standing that a disk tells by its pairs."""
-    shorts = dict(disk)
-    return shorts.get(begin_of_half(shorts) + DONE_AT, 0)
+def done_on(shorts):
+    """How many rounds are done in the standing that a disk tells, its shorts being listed by their addresses."""
+    return shorts[begin_of_half(shorts[TURNING]) + DONE_AT]
 
 
 def standing_in(program, net, house, disk):
@@ -72,7 +71,7 @@ def standing_in(program, net, house, disk):
     if not are_disk_pairs(disk):
         raise BadNumber("disk")
     shorts = dict([tuple(pair) for pair in disk])
-    begin = begin_of_half(shorts)
+    begin = begin_of_half(shorts.get(TURNING, 0))
     places = len(places_of(net, house))
     many = min(max(shorts.get(begin + COUNT_AT, 0), 0), MOST_SHOWN)
     return Standing(

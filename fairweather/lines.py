@@ -7,6 +7,12 @@ MOST_LATE = 8
 MOST_BACK = 99
 
 
+def check_late(s):
+    """BadNumber for no integer that tells how often a letter can be overtaken."""
+    if not is_within(s, 0, MOST_LATE):
+        raise BadNumber("s")
+
+
 class Line:
     """The letters that lie between two houses: it changes with each one that is sent, handed out or dropped."""
 
@@ -50,3 +56,7 @@ class Line:
             return False
         del self.lying[place]
         return True
+
+    def restore(self, letters):
+        """Lets these letters lie here, as `letters` told them."""
+        self.lying = list(letters)

@@ -1,12 +1,11 @@
 """Worlds: the computers of a net, the lines between them, and the weather that comes."""
 
 from fairweather.care import check_left
-from fairweather.checks import is_within
 from fairweather.computers import Computer
-from fairweather.errors import BadEvent, BadNumber, Misfit
+from fairweather.errors import BadEvent, Misfit
 from fairweather.halves import TURNING, check_numbers, done_on, first_disk
 from fairweather.houses import house_code
-from fairweather.lines import MOST_LATE, Line
+from fairweather.lines import Line, check_late
 from fairweather.nets import check_house, check_net, place_of, places_of
 from fairweather.programs import check_program
 from fairweather.weathers import MOST_STEPS, Weather, fits, is_event, is_on_line
@@ -45,10 +44,34 @@ class Site:
         self.promised = []
         self.computer.cut([index for index in kept if index < len(waiting)])
 
+    def state(self):
+        """All that changes, as it is now."""
+        rows = (tuple(self.screen), tuple(self.promised), tuple(self.kept))
+        return (self.computer.state(), rows, self.typed, self.is_down)
+
+    def restore(self, state):
+        """Lets all be as it was when the state was told."""
+        computer, rows, typed, is_down = state
+        screen, promised, kept = rows
+        self.computer.restore(computer)
+        self.screen = list(screen)
+        self.typed = typed
+        self.promised = list(promised)
+        self.kept = list(kept)
+        self.is_down = is_down
+
 
 def new_site(program, net, house, m, left):
     """A house in which nothing was done yet."""
     return Site(Computer(house_code(program, net, house, m, left), first_disk(program, net, house)))
+
+
+def check_weather(net, weather):
+    """BadEvent for what is no weather, Misfit for one of which some event is none of the net."""
+    if not isinstance(weather, Weather):
+        raise BadEvent("weather")
+    if not all([fits(net, event) for event in weather.events]):
+        raise Misfit("weather")
 
 
 def with_part(parts, index, part):
@@ -63,8 +86,7 @@ class World:
         check_program(program)
         check_net(net)
         check_numbers(m)
-        if not is_within(s, 0, MOST_LATE):
-            raise BadNumber("s")
+        check_late(s)
         check_left(left)
         self.program = program
         self.net = net
@@ -88,10 +110,7 @@ class World:
 
     def run(self, weather):
         """Lets all events of a weather come, in order."""
-        if not isinstance(weather, Weather):
-            raise BadEvent("weather")
-        if not all([fits(self.net, event) for event in weather.events]):
-            raise Misfit("weather")
+        check_weather(self.net, weather)
         for event in weather.events:
             self.let_come(event)
 
@@ -166,5 +185,23 @@ class World:
         site = self.sites[house]
         self.screens = with_part(self.screens, house, tuple(site.screen))
         self.inputs = with_part(self.inputs, house, tuple(site.kept))
-        self.done = with_part(self.done, house, done_on(site.computer.disk))
+        self.done = with_part(self.done, house, done_on(site.computer.settled))
         self.fallen = with_part(self.fallen, house, site.is_down)
+
+    def state(self):
+        """All that changes, as it is now."""
+        sites = tuple([site.state() for site in self.sites])
+        lying = tuple([self.lines[tie].letters for tie in self.lines])
+        return (sites, lying, self.screens, self.inputs, self.done, self.fallen)
+
+    def restore(self, state):
+        """Lets all be as it was when the state was told, by this world or by another one of the same parts."""
+        sites, lying, screens, inputs, done, fallen = state
+        for site, told in zip(self.sites, sites):
+            site.restore(told)
+        for tie, letters in zip(list(self.lines), lying):
+            self.lines[tie].restore(letters)
+        self.screens = screens
+        self.inputs = inputs
+        self.done = done
+        self.fallen = fallen

@@ -1,21 +1,22 @@
 """Runs examples that are written as the interface of the document writes them."""
 
 import importlib
+import re
 import types
 
-MODULES = ("errors", "checks", "papers", "shorts", "nets", "trees", "programs", "standings", "rounds", "calm", "codes",
-           "computers", "layouts", "expressions", "statements", "shorter", "halves", "care", "houses", "lines", "weathers",
-           "worlds")
+from fairweather.errors import WeatherError
 
 
-def names():
-    """All names of the modules whose examples are run."""
-    found = {}
-    for module in MODULES:
-        for name, value in vars(importlib.import_module(f"fairweather.{module}")).items():
-            if not name.startswith("__") and not isinstance(value, types.ModuleType):
-                found[name] = value
-    return found
+def names_of(module):
+    """The names of a module of the package, those that it imports among them."""
+    there = vars(importlib.import_module(f"fairweather.{module}"))
+    return {name: value for name, value in there.items() if not name.startswith("__") and not isinstance(value, types.ModuleType)}
+
+
+def sections(text):
+    """Each module that heads a part of the text, with this part."""
+    pieces = re.split("^fairweather/([a-z_]+)[.]py$", text, flags=re.MULTILINE)
+    return list(zip(pieces[1::2], pieces[2::2]))
 
 
 def examples_in(text):
@@ -36,7 +37,7 @@ def outcome(command, known):
         return None
     try:
         value = eval(code, known)
-    except known["WeatherError"] as error:
+    except WeatherError as error:
         fields = ", ".join(repr(field) for field in vars(error).values())
         return f"raises {type(error).__name__}({fields})"
     return None if value is None else repr(value)

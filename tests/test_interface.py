@@ -32,15 +32,31 @@ INTERFACE = {
     "lines": {"Line": "late"},
     "weathers": {"is_event": "net value", "Weather": "events"},
     "worlds": {"World": "program net m s left=None"},
+    "meanings": {"standings_of": "world", "lead": "world one other", "spread": "world",
+                 "trail": "program net m s left weather"},
+    "followed": {"Followed": "inputs", "Strayed": "house place", "Parted": "house", "followed": "world"},
+    "check_runs": {"shows_followed": "world value"},
+    "sweeps": {"sweep": "net given", "shows_each_round": "program"},
+    "falls": {"last_rounds": "net house rounds", "wave": "net house rounds"},
+    "exactly": {"Right": "m s", "Wrong": "program net weather house", "Still": "program net weather house", "least_number": "s",
+                "judged": "m s left=None"},
+    "check_exactly": {"shows_wave": "program net m s house rounds value", "shows_judged": "m s left value"},
+    "library": {"routes": "goal", "tree": "root", "leader": "", "tally": "", "echo": ""},
+    "orders": {"together": "net house", "lockstep": "net one other"},
+    "pictures": {"picture": "world", "track": "program net m s left weather"},
+    "desk": {"Desk": "program net m s=0"},
 }
 METHODS = {"Paper": "__init__ __eq__ __bool__", "Denial": "__init__ __eq__ __bool__", "Net": "__init__ __eq__ __str__ read",
            "Program": "__init__ __eq__ __str__ read", "Standing": "__init__ __eq__",
            "Code": "__init__ __eq__ __str__ __len__ __iter__ read", "Computer": "__init__ memory disk_at hand step cut",
            "Line": "__init__ send hand drop", "Weather": "__init__ __eq__ __len__ __str__ read",
-           "World": "__init__ do run line_of disk_of waiting_of"}
+           "World": "__init__ do run line_of disk_of waiting_of", "Followed": "__init__", "Strayed": "__init__",
+           "Parted": "__init__", "Right": "__init__", "Wrong": "__init__", "Still": "__init__",
+           "Desk": "__init__ __eq__ __len__ told undo twin"}
 ARGUMENTS = {"Computer": {"memory": "address", "disk_at": "address", "hand": "place letter", "step": "given", "cut": "kept"},
              "Line": {"send": "letter", "hand": "back", "drop": "back"},
-             "World": {"do": "event", "run": "weather", "line_of": "one other", "disk_of": "house", "waiting_of": "house"}}
+             "World": {"do": "event", "run": "weather", "line_of": "one other", "disk_of": "house", "waiting_of": "house"},
+             "Desk": {"told": "line", "undo": "", "twin": ""}}
 
 
 class Interface(unittest.TestCase):

@@ -1,5 +1,7 @@
 import unittest
 
+from fairweather.exactly import Right, Still, Wrong, judged
+from fairweather.followed import Followed, Parted, Strayed
 from fairweather.papers import Denial, Paper, fixed
 from tests.helpers import STRANGE, Agreeing, nested
 
@@ -108,6 +110,73 @@ class Papers(unittest.TestCase):
             return not isinstance(value, list) and all(map(all_tuples, value if isinstance(value, tuple) else ()))
         self.assertTrue(all_tuples(fixed(nested(30, [5]))))
         self.assertEqual(fixed(value=[1]), (1,))
+
+
+# Each class of papers with the names of its parts.
+CLASSES = [(Followed, ("inputs",)), (Strayed, ("house", "place")), (Parted, ("house",)), (Right, ("m", "s")),
+           (Wrong, ("program", "net", "weather", "house")), (Still, ("program", "net", "weather", "house"))]
+
+
+class AllClasses(unittest.TestCase):
+    def values(self):
+        """Values of all kinds, a paper and nested lists among them."""
+        return STRANGE + [0, -7, 10 ** 40, [], [1, [2, [3]]], ([],), nested(30, [5]), Paper("note", [1]), judged(2, 0), {"a": [1]},
+                          ["x", {"a": [1]}]]
+
+    def test_by_place_and_by_name(self):
+        for kind, names in CLASSES:
+            for at in range(len(names)):
+                for value in self.values():
+                    values = [index for index in range(len(names))]
+                    values[at] = value
+                    for paper in (kind(*values), kind(**dict(reversed(list(zip(names, values)))))):
+                        self.assertEqual(paper.word, kind.__name__.lower())
+                        self.assertIs(type(paper.parts), tuple)
+                        self.assertEqual(len(paper.parts), len(names))
+                        for name, part, told in zip(names, paper.parts, values):
+                            self.assertEqual(repr(part), repr(fixed(told)))
+                            self.assertEqual(repr(getattr(paper, name)), repr(part))
+                            self.assertTrue(isinstance(told, list) or type(part) is type(told))
+
+    def test_truth_and_bases(self):
+        for kind, names in CLASSES:
+            is_denial = kind in (Strayed, Parted, Wrong, Still)
+            self.assertIs(issubclass(kind, Denial), is_denial)
+            self.assertTrue(issubclass(kind, Paper))
+            for other, _ in CLASSES:
+                self.assertIs(issubclass(kind, other), kind is other)
+            for value in (0, "", None, [], 5):
+                self.assertIs(bool(kind(*[value] * len(names))), not is_denial)
+
+    def test_equality(self):
+        for kind, names in CLASSES:
+            for value in (5, [1, (2, [3])], "x", None, Paper("note", 1)):
+                values = [value] * len(names)
+                self.assertIs(kind(*values) == kind(*values), True)
+                self.assertIs(kind(*values) == kind(*[fixed(value)] * len(names)), True)
+                self.assertIs(kind(*values) != kind(*values), False)
+                for at in range(len(names)):
+                    for change in (6, (), [1, (2, [4])]):
+                        near = kind(*values[:at], change, *values[at + 1:])
+                        self.assertIs(kind(*values) == near, False)
+                        self.assertIs(kind(*values) != near, True)
+                for other, more in CLASSES:
+                    self.assertIs(kind(*values) == other(*[value] * len(more)), kind is other)
+                word = kind.__name__.lower()
+                for other in (Paper(word, *values), Denial(word, *values), (word, *values), Agreeing()):
+                    self.assertIs(kind(*values) == other, False)
+            # True and 1 are equal as Python compares them; the check functions tell them apart.
+            self.assertIs(kind(*[1] * len(names)) == kind(*[True] * len(names)), True)
+
+    def test_what_is_changed_later_changes_nothing(self):
+        for kind, names in CLASSES:
+            inner = [1]
+            outer = [inner, (inner,)]
+            paper = kind(*[outer] * len(names))
+            inner.append(2)
+            outer.append(3)
+            self.assertEqual(paper.parts, (((1,), ((1,),)),) * len(names))
+            self.assertEqual({repr(getattr(paper, name)) for name in names}, {"((1,), ((1,),))"})
 
 
 if __name__ == "__main__":

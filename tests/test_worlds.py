@@ -12,56 +12,12 @@ from fairweather.standings import Standing
 from fairweather.weathers import Weather
 from fairweather.worlds import World
 from tests.helpers import STRANGE, Raising, listed, nested
-from tests.making import ENDS, NAMES, heavy_body, statement
+from tests.making import ENDS, heavy_body
 from tests.skies import Sky
+from tests.storming import (ADDS, ALONE, COUNTS, LEFT, NETS, PAIR, RING, ROW, SAYS, STAR, TALK, look, some_event,
+                            some_program)
 
 LEAST, MOST = -2147483648, 2147483647
-ALONE, PAIR, ROW = Net(1, []), Net(2, [(0, 1)]), Net(3, [(0, 1), (1, 2)])
-STAR = Net(6, [(0, 1), (0, 2), (0, 3), (0, 4), (0, 5)])
-RING = Net(4, [(0, 1), (1, 2), (2, 3), (0, 3)])
-NETS = [ALONE, PAIR, ROW, RING, Net(5, [(0, 4), (1, 4), (2, 4), (3, 4), (0, 1)]), STAR]
-LEFT = [None, *range(8)]
-TALK = Program.read("cells round say input to 0 show heard 0 end")
-ADDS = Program.read("cells sum 0 at 0 round each at do sum := ( sum + heard at ) end sum := ( sum + input ) each at do "
-                    "say ( sum + at ) to at end show sum show done end")
-SAYS = Program([], [("say", ("+", ("done",), ("short", 1)), ("short", 0)), ("show", ("heard", ("short", 0)))])
-COUNTS = Program([("n", 3)], [("set", "n", ("+", ("name", "n"), ("input",))), ("show", ("name", "n"))])
-
-
-def look(world):
-    """All that can be seen of a world."""
-    houses = range(world.net.houses)
-    return (world.screens, world.inputs, world.done, world.fallen, [world.disk_of(house) for house in houses],
-            [world.waiting_of(house) for house in houses],
-            {(one, other): world.line_of(one, other) for one in houses for other in houses
-             if (one, other) in world.net.ties or (other, one) in world.net.ties})
-
-
-def some_event(source, net, falls=0.002, cuts=0.12):
-    """An event of a net, most often one that brings it on."""
-    house = source.randrange(net.houses)
-    chance = source.random()
-    if chance < falls:
-        return ("fall", house)
-    if chance < cuts:
-        return ("cut", house, tuple(sorted(source.sample(range(40), source.choice((0, 1, 5, 20, 40))))))
-    if chance < 0.25:
-        return ("steps", house, source.choice((0, 1, 7, 50, 200, 400)), source.choice(ENDS))
-    if chance < 0.5 or not net.ties:
-        return ("beat", house, source.choice(ENDS))
-    one, other = source.sample(source.choice(net.ties), 2)
-    if chance < 0.53:
-        return ("drop", one, other, source.choice((0, 0, 1, 2, 99)))
-    return ("hand", one, other, source.choice((0, 0, 0, 0, 1, 1, 2, 3, 5, 99)))
-
-
-def some_program(source):
-    """A program that tells much of what it hears, or any other one."""
-    if source.random() < 0.6:
-        return source.choice((ADDS, SAYS, TALK))
-    return Program([(name, 1) for name in NAMES], [statement(source, 3) for _ in range(2)] + [("show", ("done",))])
-
-
 class Made(Raising, unittest.TestCase):
     def test_a_new_world(self):
         for net in NETS:
