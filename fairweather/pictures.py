@@ -19,8 +19,10 @@ def letter_texts(world, one, other):
 def house_rows(world, house, calm):
     """The rows of a house: what it shows in the calm run, and what its screen has taken."""
     fallen = ["fallen"] if world.fallen[house] else []
-    seen = " ".join(["seen", numbers_text([house, *world.screens[house]]), *fallen])
-    return [f"calm {numbers_text([house, *calm])}", seen]
+    return [
+        " ".join(["calm", numbers_text([house, *calm])]),
+        " ".join(["seen", numbers_text([house, *world.screens[house]]), *fallen]),
+    ]
 
 
 def line_row(world, one, other):
